@@ -1,0 +1,1 @@
+"""Graftworth: sums of trees of operations, and relations placed within trees."""
