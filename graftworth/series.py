@@ -11,7 +11,6 @@ def _check_series(series):
 
 def _check_alike_long(one, other):
     _check_series(one)
-    _check_series(other)
     if len(one) != len(other):
         raise BadNumber("the series have different numbers of terms")
 

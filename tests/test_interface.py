@@ -13,6 +13,21 @@ FUNCTIONS = {
         "added_series": "one other", "multiplied_series": "one other", "put_into": "one other", "undoing": "series",
         "turned_signs": "series",
     },
+    "trees": {
+        "is_kinds": "kinds", "check_kinds": "kinds", "is_tree": "kinds tree", "check_tree": "kinds tree",
+        "size": "kinds tree", "width": "kinds tree", "paths": "kinds tree", "is_before": "kinds one other",
+        "counted": "kinds size width", "listed": "kinds size width", "index_of": "kinds tree",
+        "tree_at": "kinds size width index",
+    },
+    "texts": {"bracket_text": "kinds tree", "read_tree": "kinds text"},
+    "grafting": {
+        "graft": "kinds tree at other", "graft_all": "kinds tree trees", "top": "kinds tree",
+        "part_at": "kinds tree letter", "context_of": "kinds tree letter", "mirrored": "kinds tree",
+    },
+    "patterns": {
+        "places": "kinds tree pattern", "hanging": "kinds tree pattern letter",
+        "put_for": "kinds tree pattern letter other", "avoids": "kinds tree patterns",
+    },
 }
 
 
