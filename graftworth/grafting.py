@@ -23,6 +23,18 @@ def filled(tree, trees):
     return made
 
 
+def check_dot(tree, at):
+    """Raises BadNumber if no dot of the tree has this number."""
+    if not 0 <= at < tree.count(DOT):
+        raise BadNumber("no dot has this number")
+
+
+def cut_at_dot(tree, at):
+    """What stands before the dot with a number in the text of a tree, and what stands behind it."""
+    dots = [index for index, sign in enumerate(tree) if sign == DOT]
+    return tree[:dots[at]], tree[dots[at] + 1:]
+
+
 def side_by_side(kinds, text):
     """The list of the trees that stand one behind the other in a text."""
     found = []
@@ -52,11 +64,9 @@ def graft(kinds, tree, at, other):
     """The tree in which another one is grafted to the dot with the number `at`."""
     check_tree(kinds, tree)
     check_tree(kinds, other)
-    dots = tree.count(DOT)
-    if not 0 <= at < dots:
-        raise BadNumber("no dot has this number")
-    trees = [other if dot == at else DOT for dot in range(dots)]
-    return bounded(filled(tree, trees))
+    check_dot(tree, at)
+    before, behind = cut_at_dot(tree, at)
+    return bounded(before + other + behind)
 
 
 def graft_all(kinds, tree, trees):

@@ -9,6 +9,8 @@ from graftworth.errors import BadNumber, Malformed, NotNumber
 FIELDS = (0, 2, 3, 5, 7, 11, 13, 17, 19, 23, 29, 31)
 FIGURES = "0123456789"
 MOST_FIGURES = 60
+ZERO = (0, 1)
+ONE = (1, 1)
 
 
 def is_field(p):
@@ -60,6 +62,8 @@ def _rest(p, a, b):
         raise BadNumber("the prime divides the second integer")
     above = a % p
     below = b % p
+    if below == 1:
+        return (above, 1)
     rest = 0
     while rest * below % p != above:
         rest += 1
@@ -121,14 +125,22 @@ def _decimal(whole):
 def read_number(p, text):
     """The number of the field with a text; raises Malformed(0) if there is none."""
     check_field(p)
+    x = number_of_text(p, text)
+    if x is None:
+        raise Malformed(0)
+    return x
+
+
+def number_of_text(p, text):
+    """The number of the field with a text, or None if there is none or one of its integers has too many figures."""
     above, slash, below = text.partition("/")
     if slash == "":
         below = "1"
     if not (_is_short_decimal(above) and _is_short_decimal(below)):
-        raise Malformed(0)
+        return None
     x = (int(above), int(below))
     if not is_number(p, x) or number_text(p, x) != text:
-        raise Malformed(0)
+        return None
     return x
 
 

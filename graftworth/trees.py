@@ -29,10 +29,14 @@ def entrances(kinds):
     return held
 
 
+def letters_in(text):
+    """The number of letters in a text of letters and dots."""
+    return len(text) - text.count(DOT)
+
+
 def in_bounds(text):
     """Whether there are not too many letters and not too many dots in a text of letters and dots."""
-    dots = text.count(DOT)
-    return dots <= MOST_DOTS and len(text) - dots <= MOST_LETTERS
+    return text.count(DOT) <= MOST_DOTS and letters_in(text) <= MOST_LETTERS
 
 
 def is_tree(kinds, tree):
@@ -69,7 +73,7 @@ def end_of(kinds, text, start):
 def size(kinds, tree):
     """The number of letters."""
     check_tree(kinds, tree)
-    return len(tree) - tree.count(DOT)
+    return letters_in(tree)
 
 
 def width(kinds, tree):
@@ -93,9 +97,17 @@ def paths(kinds, tree):
     return found
 
 
+def _path_number(path):
+    """A number that is greater for the longer path and, of equally long ones, for the one with the later letter."""
+    told = 1
+    for letter in path:
+        told = told * 4 + LETTERS.index(letter)
+    return told
+
+
 def order_key(kinds, tree):
     """What tells the order of trees of one size and width: it is less for the lesser tree."""
-    return [(len(path), path) for path in paths(kinds, tree)]
+    return [_path_number(path) for path in paths(kinds, tree)]
 
 
 def is_before(kinds, one, other):
@@ -105,7 +117,8 @@ def is_before(kinds, one, other):
     return order_key(kinds, one) < order_key(kinds, other)
 
 
-def _check_size_and_width(size, width):
+def check_size_and_width(size, width):
+    """Raises BadNumber if no tree may have such a size or such a width."""
     if not 0 <= size <= MOST_LETTERS:
         raise BadNumber("the size is out of its range")
     if not 1 <= width <= MOST_DOTS:
@@ -115,34 +128,37 @@ def _check_size_and_width(size, width):
 def counted(kinds, size, width):
     """The number of trees with a size and a width."""
     check_kinds(kinds)
-    _check_size_and_width(size, width)
-    return _number_of_rows(kinds, 1, size, width, {})
+    check_size_and_width(size, width)
+    return number_of_rows(kinds, 1, size, width, {})
 
 
-def _number_of_rows(kinds, wanted, letters, dots, known):
-    """How many texts of so many trees, one behind the other, have so many letters and dots in all."""
+def number_of_rows(kinds, wanted, letters, dots, known):
+    """How many texts of so many trees, one behind the other, have so many letters and dots in all.
+
+    What has been counted is kept in `known`, for these kinds.
+    """
     if wanted == 0:
         return 1 if letters == 0 and dots == 0 else 0
     if letters < 0 or dots < wanted:
         return 0
     key = (wanted, letters, dots)
     if key not in known:
-        many = _number_of_rows(kinds, wanted - 1, letters, dots - 1, known)
+        many = number_of_rows(kinds, wanted - 1, letters, dots - 1, known)
         for held in kinds:
-            many += _number_of_rows(kinds, wanted + held - 1, letters - 1, dots, known)
+            many += number_of_rows(kinds, wanted + held - 1, letters - 1, dots, known)
         known[key] = many
     return known[key]
 
 
-def _rows(kinds, wanted, letters, dots, known):
-    """The texts that _number_of_rows counts."""
-    if _number_of_rows(kinds, wanted, letters, dots, known) == 0:
+def rows_of_trees(kinds, wanted, letters, dots, known):
+    """The texts that `number_of_rows` counts."""
+    if number_of_rows(kinds, wanted, letters, dots, known) == 0:
         return []
     if wanted == 0:
         return [""]
-    found = [DOT + rest for rest in _rows(kinds, wanted - 1, letters, dots - 1, known)]
+    found = [DOT + rest for rest in rows_of_trees(kinds, wanted - 1, letters, dots - 1, known)]
     for letter, held in zip(LETTERS, kinds):
-        rests = _rows(kinds, wanted + held - 1, letters - 1, dots, known)
+        rests = rows_of_trees(kinds, wanted + held - 1, letters - 1, dots, known)
         found.extend([letter + rest for rest in rests])
     return found
 
@@ -151,7 +167,7 @@ def listed(kinds, size, width):
     """The list of all trees with a size and a width, ascending."""
     if counted(kinds, size, width) > MOST_LISTED:
         raise TooLarge("there are too many trees of this size and width")
-    found = _rows(kinds, 1, size, width, {})
+    found = rows_of_trees(kinds, 1, size, width, {})
     return sorted(found, key=lambda tree: order_key(kinds, tree))
 
 

@@ -1,4 +1,6 @@
 """Plain models to compare the program with. A model tree is None, or a pair of a letter and a tuple of model trees."""
+import fractions
+import functools
 import itertools
 
 LETTERS = "abc"
@@ -168,3 +170,164 @@ def changed(word, signs):
             found.append(word[:at] + word[at + 1:])
             found.extend(word[:at] + sign + word[at + 1:] for sign in signs if sign != word[at])
     return found
+
+
+PRIMES = [2, 3, 5, 7, 11, 13, 17, 19, 23, 29, 31]
+FIELDS = [0] + PRIMES
+WRONG_FIELDS = [-1, -2, 1, 4, 6, 9, 15, 30, 32, 37, 10 ** 5000]
+
+
+def worth(p, x):
+    """A number of a field as a fraction, or as a rest."""
+    return x[0] if p else fractions.Fraction(x[0], x[1])
+
+
+def pair(p, w):
+    """The number of a field that a fraction or an integer tells."""
+    if p:
+        return (w % p, 1)
+    w = fractions.Fraction(w)
+    return (w.numerator, w.denominator)
+
+
+def inverse(p, w):
+    return next(x for x in range(p) if x * w % p == 1) if p else 1 / fractions.Fraction(w)
+
+
+def some_number(numbers, p):
+    """A number of a field, sometimes 0."""
+    if p:
+        return (numbers.below(p), 1)
+    return pair(0, fractions.Fraction(numbers.between(-6, 6), numbers.between(1, 4)))
+
+
+def not_zero(numbers, p):
+    found = some_number(numbers, p)
+    return found if found[0] else (1, 1)
+
+
+def reduced(p, rows):
+    """The echelon form of rows of fractions or rests."""
+    left = [list(row) for row in rows]
+    done = []
+    for column in range(len(rows[0]) if rows else 0):
+        lead = next((row for row in left if row[column]), None)
+        if lead is None:
+            continue
+        left.remove(lead)
+        by = inverse(p, lead[column])
+        lead = [x * by % p if p else x * by for x in lead]
+        left = [without(p, row, column, lead) for row in left]
+        done = [without(p, row, column, lead) for row in done] + [lead]
+    return done
+
+
+def without(p, row, column, lead):
+    return [(x - row[column] * y) % p if p else x - row[column] * y for x, y in zip(row, lead)]
+
+
+@functools.lru_cache(maxsize=None)
+def words_with(kinds, size, width):
+    """The texts of all trees of a size and a width, in order."""
+    found = [model for model in models(kinds, size) if dots(model) == width]
+    return [text(model) for model in sorted(found, key=functools.cmp_to_key(compared))]
+
+
+def model_of(kinds, word):
+    return parsed(kinds, word)[1]
+
+
+def grafted(kinds, word, at, other):
+    """A tree with another one at one of its dots."""
+    model = model_of(kinds, word)
+    rows = [None] * dots(model)
+    rows[at] = model_of(kinds, other)
+    return text(filled(model, rows))
+
+
+def grafted_all(kinds, word, trees):
+    return text(filled(model_of(kinds, word), [model_of(kinds, tree) for tree in trees]))
+
+
+def collected(p, pairs):
+    """A dict of what is not 0, for pairs of a tree and a fraction or a rest."""
+    found = {}
+    for tree, w in pairs:
+        found[tree] = (found.get(tree, 0) + w) % p if p else found.get(tree, 0) + w
+    return {tree: w for tree, w in found.items() if w != 0}
+
+
+def as_dict(one):
+    """A sum of the program as such a dict."""
+    return {tree: worth(one.p, x) for tree, x in one.terms()}
+
+
+def placed(kinds, relation, placing):
+    """What is placed, for a relation as a dict."""
+    _, context, at, trees = placing
+    return {grafted(kinds, context, at, grafted_all(kinds, tree, trees)): w for tree, w in relation.items()}
+
+
+def all_placings(kinds, forms, size, width):
+    """All placings for relations of which the sizes and the widths are told."""
+    found = []
+    for index, (many, wide) in enumerate(forms):
+        for context_size in range(size - many + 1):
+            for context in models(kinds, context_size):
+                for sizes in compositions(size - many - context_size, wide):
+                    rows = [[text(model) for model in models(kinds, part)] for part in sizes]
+                    for row in itertools.product(*rows):
+                        if sum(word.count(".") for word in row) + dots(context) - 1 == width:
+                            found.extend((index, text(context), at, row) for at in range(dots(context)))
+    return found
+
+
+def random_terms(numbers, p, kinds, size, width, most):
+    """Some pairs of a tree and a number that is not 0, each tree once."""
+    words = list(words_with(kinds, size, width))
+    found = []
+    for _ in range(numbers.between(1, most)):
+        if words:
+            found.append((words.pop(numbers.below(len(words))), not_zero(numbers, p)))
+    return found
+
+
+def order_key(kinds, word):
+    return functools.cmp_to_key(compared)(model_of(kinds, word))
+
+
+def standings(kinds, tops, word):
+    """The placings of heads whose head is a tree, by the number of the head, then by the letter."""
+    model = model_of(kinds, word)
+    found = []
+    for index, head in enumerate(tops):
+        for letter, part in enumerate(parts(model)):
+            trees = hung(model_of(kinds, head), part)
+            if trees is not None:
+                begin = [at for at, sign in enumerate(word) if sign != "."][letter]
+                context = text(put_at(model, letter, None))
+                found.append((index, context, word[:begin].count("."), tuple(text(tree) for tree in trees)))
+    return found
+
+
+def heads(book):
+    return [max(as_dict(one), key=lambda word: order_key(book.kinds, word)) for one in book.relations()]
+
+
+def stepped(book, told, word, placing):
+    """A dict of numbers less what is placed, so that a tree is gone."""
+    one = as_dict(book.relations()[placing[0]])
+    lead = one[heads(book)[placing[0]]]
+    by = told[word] * inverse(book.p, lead)
+    pairs = list(told.items())
+    pairs.extend((tree, -by * w) for tree, w in placed(book.kinds, one, placing).items())
+    return collected(book.p, pairs)
+
+
+def first_step(book, told):
+    """The greatest tree in which a head stands, and the first of its standings, or None twice."""
+    for word in sorted(told, key=lambda word: order_key(book.kinds, word), reverse=True):
+        found = standings(book.kinds, heads(book), word)
+        if found:
+            return word, found[0]
+    return None, None

@@ -44,8 +44,9 @@ def trees():
 
 
 def bound_names(tree):
+    methods = [method for node in ast.walk(tree) if isinstance(node, ast.ClassDef) for method in node.body]
     for node in ast.walk(tree):
-        if isinstance(node, (ast.FunctionDef, ast.ClassDef)):
+        if isinstance(node, (ast.FunctionDef, ast.ClassDef)) and node not in methods:
             yield node.name
         elif isinstance(node, ast.arg):
             yield node.arg
@@ -161,6 +162,33 @@ class Language(unittest.TestCase):
                     self.assertNotIn("%", node.value, (path, node.lineno))
             code = re.sub(r'"""[^"]*"""|#.*', "", path.read_text(encoding="utf-8"))
             self.assertIsNone(re.search(BARRED_WORDS, code), path)
+
+    def test_methods_with_two_underscores(self):
+        for path, tree in trees():
+            for node in ast.walk(tree):
+                if isinstance(node, ast.FunctionDef) and node.name.startswith("__"):
+                    self.assertIn(node.name, DOUBLE, path)
+
+    def test_iterated_at_once(self):
+        at_once = set("list tuple dict sorted sum any all enumerate zip min max".split())
+        for path, tree in trees():
+            fine = set()
+            for node in ast.walk(tree):
+                if isinstance(node, (ast.For, ast.comprehension)):
+                    fine.add(node.iter)
+                if isinstance(node, ast.Call) and isinstance(node.func, ast.Name) and node.func.id in at_once:
+                    fine.update(node.args)
+            for node in ast.walk(tree):
+                if isinstance(node, ast.Call) and isinstance(node.func, ast.Name):
+                    if node.func.id in ("range", "zip", "enumerate", "reversed"):
+                        self.assertIn(node, fine, (path, node.lineno))
+
+    def test_no_generators_and_no_stars_before_calls(self):
+        for path, tree in trees():
+            for node in ast.walk(tree):
+                self.assertNotIsInstance(node, (ast.GeneratorExp, ast.Yield, ast.YieldFrom), path)
+                if isinstance(node, ast.Starred) and isinstance(node.ctx, ast.Load):
+                    self.assertIsInstance(node.value, ast.Name, (path, node.lineno))
 
     def test_exponents_are_literals(self):
         for path, tree in trees():
