@@ -28,6 +28,43 @@ FUNCTIONS = {
         "places": "kinds tree pattern", "hanging": "kinds tree pattern letter",
         "put_for": "kinds tree pattern letter other", "avoids": "kinds tree patterns",
     },
+    "sums": {
+        "Sum": "p kinds size width terms", "zero_sum": "p kinds size width", "text_of_sum": "one", "read_sum": "text",
+    },
+    "books": {
+        "Book": "p kinds relations", "check_placing": "book placing", "placed": "book placing",
+        "placings": "book size width", "combined": "book size width pairs", "text_of_book": "book", "read_book": "text",
+    },
+    "linear": {
+        "is_matrix": "p matrix", "echelon": "p matrix", "rank": "p matrix", "kernel": "p matrix",
+        "solution": "p matrix right", "clash": "p matrix right",
+    },
+    "alike": {
+        "kept_trees": "book size width", "dimension": "book size width", "plain": "book one", "is_lost": "book one",
+        "are_alike": "book one other", "decide": "book one other", "is_row": "book size width row",
+        "is_answer": "book one other answer",
+    },
+    "steps": {
+        "heads": "book", "standings": "book tree", "is_low": "book tree", "low_trees": "book size width",
+        "first_step": "book one", "step_down": "book one placing", "down": "book one", "walked": "book one chain",
+    },
+    "overlaps": {
+        "overlaps": "book", "difference": "book overlap", "first_clash": "book size", "is_complete": "book size",
+        "tidied": "book", "completed": "book size",
+    },
+    "counts": {
+        "by_width": "kinds most", "depth": "kinds tree", "crown": "kinds tree most",
+        "avoiding": "kinds patterns size width", "avoiding_number": "kinds patterns size width",
+        "avoiding_by_width": "kinds patterns most",
+    },
+}
+METHODS = {
+    ("sums", "Sum"): {
+        "terms": "self", "at": "self tree", "head": "self", "scaled": "self number", "grafted": "self at other",
+        "under": "self tree at", "with_all": "self trees", "mirrored": "self", "__add__": "self other",
+        "__sub__": "self other", "__neg__": "self", "__eq__": "self other", "__len__": "self", "__bool__": "self",
+    },
+    ("books", "Book"): {"relations": "self", "mirrored": "self", "__eq__": "self other", "__len__": "self"},
 }
 
 
@@ -47,3 +84,10 @@ class Interface(unittest.TestCase):
                 function = getattr(loaded, name)
                 self.assertEqual(told(function), arguments, name)
                 self.assertEqual(function.__module__, "graftworth." + module, name)
+
+    def test_methods(self):
+        for (module, name), methods in METHODS.items():
+            found = getattr(importlib.import_module("graftworth." + module), name)
+            for method, arguments in methods.items():
+                self.assertIn(method, vars(found), name)
+                self.assertEqual(told(vars(found)[method]), arguments, (name, method))
