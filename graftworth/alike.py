@@ -23,7 +23,7 @@ def _lost_numbers(book, size, width):
     return trees, [numbers_along(placed(book, placing), trees) for placing in placings(book, size, width)]
 
 
-def _lost_form(book, size, width):
+def lost_form(book, size, width):
     """The trees of a size and width, descending, and the echelon form of all that is placed, by these trees.
 
     Its leading columns are those of the heads of lost sums, as the greatest tree comes first.
@@ -32,11 +32,27 @@ def _lost_form(book, size, width):
     return trees[::-1], echelon_rows(book.p, [numbers[::-1] for numbers in lost])
 
 
+def kept_by(form):
+    """The list of the kept trees, ascending, by what `lost_form` tells."""
+    trees, rows = form
+    lost = [trees[leading_column(row)] for row in rows]
+    return [tree for tree in reversed(trees) if tree not in lost]
+
+
+def plain_by(form, one):
+    """The plain sum of a sum, by what `lost_form` tells for its size and width."""
+    trees, rows = form
+    numbers = numbers_along(one, trees)
+    for row in rows:
+        x = numbers[leading_column(row)]
+        if x != ZERO:
+            numbers = [minus(one.p, y, times(one.p, x, z)) for y, z in zip(numbers, row)]
+    return Sum(one.p, one.kinds, one.size, one.width, list(zip(trees, numbers)))
+
+
 def kept_trees(book, size, width):
     """The list of the trees that are no head of a lost sum, ascending."""
-    trees, form = _lost_form(book, size, width)
-    lost = [trees[leading_column(row)] for row in form]
-    return [tree for tree in reversed(trees) if tree not in lost]
+    return kept_by(lost_form(book, size, width))
 
 
 def dimension(book, size, width):
@@ -47,13 +63,7 @@ def dimension(book, size, width):
 def plain(book, one):
     """The only sum of kept trees that is alike to a sum."""
     check_sum(book, one)
-    trees, form = _lost_form(book, one.size, one.width)
-    numbers = numbers_along(one, trees)
-    for row in form:
-        x = numbers[leading_column(row)]
-        if x != ZERO:
-            numbers = [minus(book.p, y, times(book.p, x, z)) for y, z in zip(numbers, row)]
-    return Sum(one.p, one.kinds, one.size, one.width, list(zip(trees, numbers)))
+    return plain_by(lost_form(book, one.size, one.width), one)
 
 
 def is_lost(book, one):

@@ -125,13 +125,13 @@ def _grown(book, ends):
     """A tidy book with further lost sums of one size, greater than its relations', whose trees are low in it."""
     relations = book.relations()
     for width in sorted(set([end.width for end in ends])):
-        relations.extend(_tidy_sums([end for end in ends if end.width == width]))
+        relations.extend(tidy_sums([end for end in ends if end.width == width]))
     if len(relations) > MOST_RELATIONS:
         raise TooLarge("the book would have too many relations")
     return Book(book.p, book.kinds, relations)
 
 
-def _tidy_sums(ends):
+def tidy_sums(ends):
     """Sums with the same sums of multiples as some of one form, by their heads; each head has the number 1.
 
     No head is a tree of another one of them.

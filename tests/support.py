@@ -3,6 +3,9 @@ import fractions
 import functools
 import itertools
 
+from graftworth.books import Book
+from graftworth.sums import Sum
+
 LETTERS = "abc"
 ALL_KINDS = [kinds for many in (1, 2, 3) for kinds in itertools.product((2, 3), repeat=many)]
 SOME_KINDS = [(2,), (3,), (2, 2), (3, 2), (2, 3, 2)]
@@ -331,3 +334,109 @@ def first_step(book, told):
         if found:
             return word, found[0]
     return None, None
+
+
+def book_of(written):
+    """The book with a text, in which the terms may stand in any order."""
+    first, *rest = written.split(" ; ")
+    p, kinds = int(first.split(" ")[0]), tuple(int(figure) for figure in first.split(" ")[1])
+    relations = []
+    for told in rest:
+        size, width, *words = told.split(" ")
+        pairs = [(tree, pair(p, int(word) if p else fractions.Fraction(word))) for word, tree in zip(words[::2], words[1::2])]
+        relations.append(Sum(p, kinds, int(size), int(width), pairs))
+    return Book(p, kinds, relations)
+
+
+def covered(pattern, letter, word_model):
+    """The numbers of the letters that belong to a pattern that stands at a letter of a model tree."""
+    found = set()
+
+    def go(below, at, part):
+        if below is None:
+            return
+        found.add(at)
+        at += 1
+        for inner, tree in zip(below[1], part[1]):
+            go(inner, at, tree)
+            at += letters(tree)
+
+    go(pattern, letter, parts(word_model)[letter])
+    return found
+
+
+def overlaps_among(book, words):
+    """The overlaps whose trees are among some words, as the definition tells them."""
+    found = set()
+    patterns = [model_of(book.kinds, head) for head in heads(book)]
+    for word in words:
+        model = model_of(book.kinds, word)
+        told = []
+        for index, head in enumerate(heads(book)):
+            for placing in standings(book.kinds, [head], word):
+                letter = letters_before(placing[1], placing[2])
+                told.append((letter, index, (index,) + placing[1:], covered(patterns[index], letter, model)))
+        every = set(range(letters(model)))
+        for one, other in itertools.permutations(told, 2):
+            if one[3] & other[3] and one[3] | other[3] == every and one[0] == 0:
+                if other[0] > 0 or one[1] < other[1]:
+                    found.add((word, one[2], other[2]))
+    return found
+
+
+def letters_before(context, at):
+    """The number of letters before a dot."""
+    dot = [index for index, sign in enumerate(context) if sign == "."][at]
+    return len(context[:dot].replace(".", ""))
+
+
+def words_up_to(kinds, most):
+    return [text(model) for size in range(1, most + 1) for model in models(kinds, size)]
+
+
+def without_one(told):
+    """The lists or tuples that come from one by leaving an entry out, or by putting it in twice."""
+    for at in range(len(told)):
+        yield told[:at] + told[at + 1:]
+        yield told[:at + 1] + told[at:]
+
+
+def mutants(told, signs="ab."):
+    """What comes from nested lists and tuples of integers and strings by one change; tuples keep their lengths."""
+    if isinstance(told, int):
+        yield from (told + 1, told - 1, -told - 1, 10 ** 30)
+    elif isinstance(told, str):
+        yield from changed(told, signs)
+    else:
+        for at, part in enumerate(told):
+            for other in mutants(part, signs):
+                yield told[:at] + type(told)([other]) + told[at + 1:]
+        if isinstance(told, list):
+            yield from without_one(told)
+
+
+def told_terms(one):
+    """A sum as a list of terms, the greatest tree first."""
+    return one.terms()[::-1]
+
+
+def told_relations(book):
+    return [told_terms(one) for one in book.relations()]
+
+
+def is_number(p, x):
+    if p:
+        return x[1] == 1 and x[0] in range(p)
+    return x[1] > 0 and pair(0, fractions.Fraction(*x)) == x
+
+
+def placed_by(book, placing):
+    """What a placing places, as a dict, or None if it is none or too large."""
+    index, context, at, trees = placing
+    if index not in range(len(book)) or not stands_for_tree(book.kinds, context) or at not in range(context.count(".")):
+        return None
+    one = as_dict(book.relations()[index])
+    if not all(stands_for_tree(book.kinds, tree) for tree in trees) or {word.count(".") for word in one} != {len(trees)}:
+        return None
+    made = placed(book.kinds, one, placing)
+    return made if all(stands_for_tree(book.kinds, word) for word in made) else None

@@ -57,6 +57,23 @@ FUNCTIONS = {
         "avoiding": "kinds patterns size width", "avoiding_number": "kinds patterns size width",
         "avoiding_by_width": "kinds patterns most",
     },
+    "duals": {
+        "is_square": "book", "pairing": "one other", "dual": "book", "is_linked": "book tree", "linked_number": "book size",
+        "dimensions": "book most", "undo_one_another": "one other",
+    },
+    "worlds": {
+        "is_world": "world", "check_world": "world", "unit": "world index", "value": "world tree vectors",
+        "sum_value": "world one vectors", "table": "world tree", "obeys": "world book", "names": "book width",
+        "told_world": "book width", "told_value": "book one",
+    },
+    "leadings": {
+        "Leading": "p kinds others images", "calm": "p kinds", "first_wrong": "leading book other",
+        "is_right": "leading book other", "gone": "leading other size width",
+    },
+    "certificates": {
+        "shown": "p kinds relations terms others answer", "is_chain": "p kinds relations terms chain end",
+        "comes_to_zero": "p kinds relations overlap chain", "shows_complete": "p kinds relations size papers",
+    },
 }
 METHODS = {
     ("sums", "Sum"): {
@@ -65,6 +82,9 @@ METHODS = {
         "__sub__": "self other", "__neg__": "self", "__eq__": "self other", "__len__": "self", "__bool__": "self",
     },
     ("books", "Book"): {"relations": "self", "mirrored": "self", "__eq__": "self other", "__len__": "self"},
+    ("leadings", "Leading"): {
+        "images": "self", "step": "self", "image": "self one", "behind": "self first", "__eq__": "self other",
+    },
 }
 
 

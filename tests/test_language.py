@@ -1,6 +1,7 @@
 """Some of the rules of the language that the package is written in, as far as its syntax tells them."""
 import ast
 import builtins
+import functools
 import pathlib
 import re
 import unittest
@@ -39,6 +40,7 @@ DOUBLE = set(
 BARRED_WORDS = r"\b(type|typing|enum|Enum|Generic|Protocol|ABC|namedtuple|NamedTuple|abstractmethod)\b|dataclass|overload"
 
 
+@functools.lru_cache(maxsize=None)
 def trees():
     return [(path, ast.parse(path.read_text(encoding="utf-8"))) for path in FILES]
 

@@ -39,52 +39,6 @@ def of_trees(kinds, words, p=0, x=(1, 1)):
     return Book(p, kinds, [Sum(p, kinds, len(word.replace(".", "")), word.count("."), [(word, x)]) for word in words])
 
 
-def covered(pattern, letter, word_model):
-    """The numbers of the letters that belong to a pattern that stands at a letter of a model tree."""
-    found = set()
-
-    def go(below, at, part):
-        if below is None:
-            return
-        found.add(at)
-        at += 1
-        for inner, tree in zip(below[1], part[1]):
-            go(inner, at, tree)
-            at += support.letters(tree)
-
-    go(pattern, letter, support.parts(word_model)[letter])
-    return found
-
-
-def overlaps_among(book, words):
-    """The overlaps whose trees are among some words, as the definition tells them."""
-    found = set()
-    patterns = [support.model_of(book.kinds, head) for head in heads(book)]
-    for word in words:
-        model = support.model_of(book.kinds, word)
-        told = []
-        for index, head in enumerate(heads(book)):
-            for placing in support.standings(book.kinds, [head], word):
-                letter = letters_before(placing[1], placing[2])
-                told.append((letter, index, (index,) + placing[1:], covered(patterns[index], letter, model)))
-        every = set(range(support.letters(model)))
-        for one, other in itertools.permutations(told, 2):
-            if one[3] & other[3] and one[3] | other[3] == every and one[0] == 0:
-                if other[0] > 0 or one[1] < other[1]:
-                    found.add((word, one[2], other[2]))
-    return found
-
-
-def letters_before(context, at):
-    """The number of letters before a dot."""
-    dot = [index for index, sign in enumerate(context) if sign == "."][at]
-    return len(context[:dot].replace(".", ""))
-
-
-def words_up_to(kinds, most):
-    return [support.text(model) for size in range(1, most + 1) for model in support.models(kinds, size)]
-
-
 def lost_form(book, size, width):
     """The echelon form of all that is placed, by all trees, descending."""
     words = support.words_with(book.kinds, size, width)[::-1]
@@ -109,7 +63,7 @@ class Overlaps(unittest.TestCase):
             found = overlaps(book)
             self.assertEqual(len(set(found)), len(found))
             small = {overlap for overlap in found if len(overlap[0].replace(".", "")) <= most}
-            self.assertEqual(small, overlaps_among(book, words_up_to(book.kinds, most)))
+            self.assertEqual(small, support.overlaps_among(book, support.words_up_to(book.kinds, most)))
             # Of two relations, the tree of an overlap has fewer letters than both together.
             for tree, one, other in found:
                 sizes = [book.relations()[placing[0]].size for placing in (one, other)]
