@@ -45,6 +45,17 @@ def end_in(kinds, text, at):
     return at
 
 
+def parts_of(kinds, tree):
+    """The list of the trees at the entrances of the first letter."""
+    found = []
+    at = 1
+    while at < len(tree):
+        end = end_in(kinds, tree, at)
+        found.append(tree[at:end])
+        at = end
+    return found
+
+
 def order_of(kinds, tree):
     """What tells the order of trees of one size and width: for each dot the length of its path, and the path."""
     held = _entrances(kinds)

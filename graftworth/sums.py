@@ -215,13 +215,18 @@ def _read_integer(words, at, allowed):
 def read_field(words):
     """The field and the kinds that the first two words tell."""
     p = _read_integer(words, 0, FIELDS)
-    word = word_at(words, 1)
-    if not all([figure in FIGURES for figure in word]):
-        raise Malformed(1)
-    kinds = tuple([int(figure) for figure in word])
-    if not is_kinds(kinds):
+    kinds = kinds_in(word_at(words, 1))
+    if kinds is None:
         raise Malformed(1)
     return p, kinds
+
+
+def kinds_in(word):
+    """The kinds that a word of figures tells, or None."""
+    if not all([figure in FIGURES for figure in word]):
+        return None
+    kinds = tuple([int(figure) for figure in word])
+    return kinds if is_kinds(kinds) else None
 
 
 def read_form(words, at, least, most):

@@ -529,26 +529,6 @@ class Errors(unittest.TestCase):
         self.assertEqual((relations, terms, others), (RELATIONS, LEFT * 2, RIGHT * 2))
         self.assertEqual((chain, paper), ([PLACING], [((2, 1), PLACING)]))
 
-    def test_what_the_checker_imports(self):
-        """Its modules import the errors and one another alone."""
-        import ast
-        import importlib
-        waiting, seen = ["graftworth.certificates"], set()
-        while waiting:
-            name = waiting.pop()
-            if name in seen or name == "graftworth.errors":
-                continue
-            seen.add(name)
-            with open(importlib.import_module(name).__file__, encoding="utf-8") as file:
-                tree = ast.parse(file.read())
-            for node in ast.walk(tree):
-                self.assertNotIsInstance(node, ast.Import)
-                if isinstance(node, ast.ImportFrom):
-                    waiting.append(node.module)
-        others = "numbers series trees texts grafting patterns sums books linear alike steps overlaps counts duals worlds leadings"
-        self.assertFalse(seen & {"graftworth." + name for name in others.split()})
-        self.assertTrue(all(name.startswith("graftworth.") for name in seen))
-
 
 class Books(unittest.TestCase):
     def test_relations_of_several_sums(self):

@@ -74,6 +74,12 @@ FUNCTIONS = {
         "shown": "p kinds relations terms others answer", "is_chain": "p kinds relations terms chain end",
         "comes_to_zero": "p kinds relations overlap chain", "shows_complete": "p kinds relations size papers",
     },
+    "witnesses": {
+        "is_told_world": "world", "obeys_told": "p kinds relations world", "parts_told": "world terms others vectors",
+    },
+    "lines": {"words_of": "line", "is_name": "word", "number_in": "word"},
+    "desk": {"Desk": ""},
+    "journal": {"Journal": "", "attempt": "journal lines keep=False", "resume": "text"},
 }
 METHODS = {
     ("sums", "Sum"): {
@@ -84,6 +90,11 @@ METHODS = {
     ("books", "Book"): {"relations": "self", "mirrored": "self", "__eq__": "self other", "__len__": "self"},
     ("leadings", "Leading"): {
         "images": "self", "step": "self", "image": "self one", "behind": "self first", "__eq__": "self other",
+    },
+    ("desk", "Desk"): {"answer": "self line", "answers": "self lines", "names": "self", "thing": "self name"},
+    ("journal", "Journal"): {
+        "answer": "self line", "record": "self", "lines": "self", "keep": "self", "__enter__": "self",
+        "__exit__": "self kind value trace",
     },
 }
 
