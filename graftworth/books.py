@@ -4,7 +4,7 @@ from graftworth.grafting import side_by_side
 from graftworth.numbers import check_field, check_number
 from graftworth.sums import Sum, field_words, read_field, read_form, read_term, word_at, words_of_terms, zero_sum
 from graftworth.trees import DOT, MOST_DOTS, MOST_LETTERS, check_kinds, check_size_and_width, is_tree, letters_in
-from graftworth.trees import number_of_rows, rows_of_trees
+from graftworth.trees import orders_of_signs, rows_of_trees
 
 MOST_RELATIONS = 10
 MOST_SIZE = 6
@@ -78,41 +78,39 @@ def placed(book, placing):
 
 def placings(book, size, width):
     """The list of all placings whose sums have a size and a width."""
-    check_size_and_width(size, width)
-    rooms = _rooms(book, size, width)
-    if sum([room[3] for room in rooms]) > MOST_PLACINGS:
-        raise TooLarge("there are too many placings of this size and width")
-    found = []
-    for index, letters, dots, _ in rooms:
-        found.extend(_placings_in(book, index, letters, dots, size, width))
-    return found
-
-
-def _rooms(book, size, width):
-    """How placings of a size and a width may share letters and dots between the context and the trees.
-
-    For each relation, and each size and width of a context for which there are placings: the relation's number, the
-    letters and the dots of the context, and the number of the placings.
-    """
+    check_few_placings(book, size, width)
     found = []
     known = {}
     for index, relation in enumerate(book.relations()):
         for letters in range(size - relation.size + 1):
             for dots in range(1, width + 1):
-                left = size - relation.size - letters
-                contexts = number_of_rows(book.kinds, 1, letters, dots, known)
-                rows = number_of_rows(book.kinds, relation.width, left, width + 1 - dots, known)
-                if contexts * rows > 0:
-                    found.append((index, letters, dots, contexts * dots * rows))
+                found.extend(_placings_in(book, index, letters, dots, size, width, known))
     return found
 
 
-def _placings_in(book, index, letters, dots, size, width):
-    """The placings of the relation with a number, in contexts of so many letters and dots."""
+def check_few_placings(book, size, width):
+    """Raises BadNumber if no tree may have such a size or width, then TooLarge if there are too many placings."""
+    check_size_and_width(size, width)
+    many = 0
+    for relation in book.relations():
+        if relation.size <= size:
+            # A placing is a tree with one further letter, which stands for the relation. Turned about in a circle, an
+            # order of its signs is a tree at one place alone: so there are as many as orders of the other signs.
+            many += orders_of_signs(book.kinds, relation.width, size - relation.size, width)
+    if many > MOST_PLACINGS:
+        raise TooLarge("there are too many placings of this size and width")
+
+
+def _placings_in(book, index, letters, dots, size, width, known):
+    """The placings of the relation with a number, in contexts of so many letters and dots.
+
+    What `rows_of_trees` has made is kept in `known`.
+    """
     relation = book.relations()[index]
-    left = size - relation.size - letters
-    known = {}
     contexts = rows_of_trees(book.kinds, 1, letters, dots, known)
+    if contexts == []:
+        return []
+    left = size - relation.size - letters
     texts = rows_of_trees(book.kinds, relation.width, left, width + 1 - dots, known)
     rows = [tuple(side_by_side(book.kinds, text)) for text in texts]
     return [(index, context, at, row) for context in contexts for at in range(dots) for row in rows]

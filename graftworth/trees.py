@@ -2,6 +2,8 @@
 
 A dot is an open entrance; a letter and, behind it, the trees at its entrances are an operation.
 """
+from math import comb
+
 from graftworth.errors import BadNumber, NotKinds, NotTree, TooLarge
 
 DOT = "."
@@ -129,44 +131,60 @@ def counted(kinds, size, width):
     """The number of trees with a size and a width."""
     check_kinds(kinds)
     check_size_and_width(size, width)
-    return number_of_rows(kinds, 1, size, width, {})
+    return number_of_rows(kinds, 1, size, width)
 
 
-def number_of_rows(kinds, wanted, letters, dots, known):
-    """How many texts of so many trees, one behind the other, have so many letters and dots in all.
-
-    What has been counted is kept in `known`, for these kinds.
-    """
+def number_of_rows(kinds, wanted, letters, dots):
+    """How many texts of so many trees, one behind the other, have so many letters and dots in all."""
     if wanted == 0:
         return 1 if letters == 0 and dots == 0 else 0
-    if letters < 0 or dots < wanted:
+    # Turned about in a circle, an order of the signs begins such a text at just `wanted` of its signs.
+    return wanted * orders_of_signs(kinds, wanted, letters, dots) // max(letters + dots, 1)
+
+
+def orders_of_signs(kinds, wanted, letters, dots):
+    """How many texts of so many letters and dots, in whatever order, have as many signs as so many trees would have."""
+    # Each letter with two entrances makes one more dot, each one with three of them two more.
+    threes = dots - wanted - letters
+    twos = letters - threes
+    if twos < 0 or threes < 0:
         return 0
-    key = (wanted, letters, dots)
-    if key not in known:
-        many = number_of_rows(kinds, wanted - 1, letters, dots - 1, known)
-        for held in kinds:
-            many += number_of_rows(kinds, wanted + held - 1, letters - 1, dots, known)
-        known[key] = many
-    return known[key]
+    places = comb(letters + dots, letters) * comb(letters, threes)
+    return places * _power(kinds.count(2), twos) * _power(kinds.count(3), threes)
+
+
+def _power(base, exponent):
+    made = 1
+    for _ in range(exponent):
+        made *= base
+    return made
 
 
 def rows_of_trees(kinds, wanted, letters, dots, known):
-    """The texts that `number_of_rows` counts."""
-    if number_of_rows(kinds, wanted, letters, dots, known) == 0:
+    """The texts that `number_of_rows` counts. What has been made is kept in `known`, for these kinds."""
+    if number_of_rows(kinds, wanted, letters, dots) == 0:
         return []
     if wanted == 0:
         return [""]
-    found = [DOT + rest for rest in rows_of_trees(kinds, wanted - 1, letters, dots - 1, known)]
-    for letter, held in zip(LETTERS, kinds):
-        rests = rows_of_trees(kinds, wanted + held - 1, letters - 1, dots, known)
-        found.extend([letter + rest for rest in rests])
-    return found
+    key = (wanted, letters, dots)
+    if key not in known:
+        found = [DOT + rest for rest in rows_of_trees(kinds, wanted - 1, letters, dots - 1, known)]
+        for letter, held in zip(LETTERS, kinds):
+            rests = rows_of_trees(kinds, wanted + held - 1, letters - 1, dots, known)
+            found.extend([letter + rest for rest in rests])
+        known[key] = found
+    return known[key]
+
+
+def check_few_trees(kinds, size, width):
+    """Raises BadNumber if no tree may have such a size or width, then TooLarge if there are too many trees to list."""
+    if counted(kinds, size, width) > MOST_LISTED:
+        raise TooLarge("there are too many trees of this size and width")
 
 
 def listed(kinds, size, width):
     """The list of all trees with a size and a width, ascending."""
-    if counted(kinds, size, width) > MOST_LISTED:
-        raise TooLarge("there are too many trees of this size and width")
+    check_few_trees(kinds, size, width)
     found = rows_of_trees(kinds, 1, size, width, {})
     return sorted(found, key=lambda tree: order_key(kinds, tree))
 

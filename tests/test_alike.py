@@ -1,3 +1,4 @@
+import sys
 import unittest
 
 from graftworth.alike import are_alike, decide, dimension, is_answer, is_lost, is_row, kept_trees, plain
@@ -414,3 +415,55 @@ class Placed(unittest.TestCase):
             for size, width in ((2, 3), (3, 4), (2, 4)):
                 for placing in placings(book, size, width):
                     self.assertTrue(is_lost(book, placed(book, placing)))
+
+
+def calls_made(function, *arguments):
+    """How many functions are called, the library's own ones too, until a call returns or raises TooLarge."""
+    made = []
+    sys.setprofile(lambda frame, event, what: made.append(event) if event in ("call", "c_call") else None)
+    try:
+        function(*arguments)
+    except TooLarge:
+        pass
+    finally:
+        sys.setprofile(None)
+    return len(made)
+
+
+class Refusals(unittest.TestCase):
+    """What is refused for the numbers of trees and placings alone takes no list of them."""
+
+    def calls(self, book, size, width):
+        zero = zero_sum(book.p, book.kinds, size, width)
+        return [
+            (kept_trees, (book, size, width)), (dimension, (book, size, width)), (is_row, (book, size, width, [])), (plain, (book, zero)),
+            (is_lost, (book, zero)), (are_alike, (book, zero, zero)), (decide, (book, zero, zero)),
+            (is_answer, (book, zero, zero, ("alike", []))), (is_answer, (book, zero, zero, ("apart", []))),
+        ]
+
+    def test_they_take_less_than_answers(self):
+        one = Sum(0, (2, 2), 1, 2, [("a..", (1, 1))])
+        # 224 trees and 448 placings; as many trees, and more placings; 429 trees, and 4862.
+        for book, size, width in (
+            (Book(0, (2, 2), [one]), 4, 5), (Book(0, (2, 2), [one] * 10), 4, 5), (Book(0, (2,), []), 7, 8), (read_book(EXAMPLE), 9, 10),
+        ):
+            for function, arguments in self.calls(book, size, width):
+                self.assertRaises(TooLarge, function, *arguments)
+                self.assertLess(calls_made(function, *arguments), 300, function)
+        # What is not refused takes all of the trees.
+        for function, arguments in self.calls(Book(0, (2, 2), []), 4, 5):
+            self.assertGreater(calls_made(function, *arguments), 1000)
+
+    def test_wrong_numbers_come_first(self):
+        book = Book(0, (2, 2), [Sum(0, (2, 2), 1, 2, [("a..", (1, 1))])])
+        for size, width in ((-1, 5), (10, 5), (4, 0), (4, 15)):
+            for function in (kept_trees, dimension):
+                self.assertRaises(BadNumber, function, book, size, width)
+            self.assertRaises(BadNumber, is_row, book, size, width, [])
+        wrong, right = zero_sum(3, (2, 2), 4, 5), zero_sum(0, (2, 2), 4, 5)
+        for one, other in ((wrong, right), (right, wrong), (right, zero_sum(0, (2, 2), 4, 6))):
+            for function in (are_alike, decide):
+                self.assertRaises(BadNumber, function, book, one, other)
+            self.assertRaises(BadNumber, is_answer, book, one, other, ("alike", []))
+        self.assertRaises(BadNumber, plain, book, wrong)
+        self.assertRaises(BadNumber, is_lost, book, wrong)

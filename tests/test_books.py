@@ -190,6 +190,22 @@ class Placings(unittest.TestCase):
         self.assertEqual(len(placings(seven, 4, 5)), 7 * 4 * 14)
         self.assertRaises(TooLarge, placings, eight, 4, 5)
 
+    def test_number_of_placings(self):
+        for kinds in SOME_KINDS:
+            for many, wide in ((1, kinds[0]), (2, 2 * kinds[0] - 1), (2, 4), (3, 5)):
+                words = support.words_with(kinds, many, wide)
+                book = Book(0, kinds, [Sum(0, kinds, many, wide, [(words[0], (1, 1))])]) if words else Book(0, kinds, [])
+                for size in range(5):
+                    for width in range(1, 10):
+                        shapes = [(one.size, one.width) for one in book.relations()]
+                        if len(support.words_with(kinds, size, width)) > 300:
+                            continue
+                        due = len(support.all_placings(kinds, shapes, size, width))
+                        if due > 400:
+                            self.assertRaises(TooLarge, placings, book, size, width)
+                        else:
+                            self.assertEqual(len(placings(book, size, width)), due)
+
     def test_just_400(self):
         combs = [relation(word="a" * size + "." * (size + 1), size=size, width=size + 1) for size in range(1, 6)]
         self.assertEqual([len(placings(Book(0, (2,), [one]), 5, 6)) for one in combs], [210, 84, 28, 7, 1])
