@@ -11,18 +11,14 @@ def tells_field(p):
 
 
 def is_number_of(p, x):
-    """Whether something is a pair of integers that is a number of the field."""
-    if not _is_pair_of_integers(x):
+    """Whether a pair is a number of the field."""
+    # Where a row is due a paper may be handed in, whose pairs are none of integers.
+    if not all([isinstance(part, int) for part in x]):
         return False
     a, b = x
     if p == 0:
         return b >= 1 and _divisor(a, b) == 1
     return b == 1 and 0 <= a < p
-
-
-def _is_pair_of_integers(x):
-    # Where numbers are due a paper may be handed in, whose entries are no pairs of integers.
-    return isinstance(x, tuple) and len(x) == 2 and all([isinstance(part, int) for part in x])
 
 
 def _divisor(a, b):

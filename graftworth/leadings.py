@@ -5,7 +5,7 @@ from graftworth.grafting import top
 from graftworth.linear import kernel
 from graftworth.numbers import ONE, check_field
 from graftworth.sums import Sum, numbers_along, zero_sum
-from graftworth.trees import DOT, LETTERS, MOST_LETTERS, check_kinds, check_size_and_width, counted, listed
+from graftworth.trees import DOT, LETTERS, MOST_LETTERS, check_kinds, counted, listed
 
 MOST_STEP = 2
 MOST_TREES = 60
@@ -115,7 +115,6 @@ def is_right(leading, book, other):
 def gone(leading, other, size, width):
     """A basis of the sums of a size and width whose images are lost in the other book."""
     _check_other(leading, other)
-    check_size_and_width(size, width)
     if counted(leading.kinds, size, width) > MOST_TREES:
         raise TooLarge("there are too many trees of this size and width")
     trees = listed(leading.kinds, size, width)

@@ -79,6 +79,17 @@ def is_zero(p, w):
     return (w % p if p else w) == 0
 
 
+def model_end(book, told, chain):
+    """What a chain makes of a dict of numbers, or None if one of its placings is no step."""
+    for placing in chain:
+        made = support.placed_by(book, placing)
+        head = made and max(made, key=lambda word: support.order_key(book.kinds, word))
+        if made is None or head not in told:
+            return None
+        told = support.stepped(book, told, head, placing)
+    return told
+
+
 def lost_part(numbers, book, one):
     """A sum, and the same with something lost added to it."""
     more = one
@@ -205,6 +216,10 @@ class Answers(unittest.TestCase):
         for row in ([], [(1, 1)] * 429, [(1, 0)]):
             self.assertRaises(TooLarge, shown, 0, (2,), RELATIONS, [(seven, (1, 1))], [], ("apart", row))
             self.assertRaises(TooLarge, shown, 0, (2,), RELATIONS, [(seven, (0, 1))], [], ("apart", row))
+        # 273 trees, and 324: no kinds have any number between these.
+        five, three = "aaaaa...........", "aaa......."
+        self.assertEqual(shown(0, (3,), [], [(five, (1, 1))], [], ("apart", [(1, 1)] * 273)), "apart")
+        self.assertRaises(TooLarge, shown, 0, (3, 3, 3), [], [(three, (1, 1))], [], ("apart", [(1, 1)] * 324))
         # Papers have no such bound, and what is neither shows nothing.
         large = ((1, 1), (0, "aaaa.....", 0, (".", "a..", ".")))
         made = placed(read_book(EXAMPLE), large[1])
@@ -240,14 +255,7 @@ class Chains(unittest.TestCase):
         return is_chain(book.p, book.kinds, support.told_relations(book), support.told_terms(one), chain, support.told_terms(end))
 
     def model(self, book, one, chain, end):
-        told = support.as_dict(one)
-        for placing in chain:
-            made = support.placed_by(book, placing)
-            head = made and max(made, key=lambda word: support.order_key(book.kinds, word))
-            if made is None or head not in told:
-                return False
-            told = support.stepped(book, told, head, placing)
-        return told == support.as_dict(end)
+        return model_end(book, support.as_dict(one), chain) == support.as_dict(end)
 
     def test_right_chains(self):
         many = 0
@@ -297,6 +305,14 @@ class Chains(unittest.TestCase):
         self.assertIs(is_chain(7, (2,), relations, [("aa...", (5, 1))], [PLACING], [("a.a..", (3, 1))]), True)
         self.assertIs(is_chain(7, (2,), relations, [("aa...", (5, 1))], [PLACING], [("a.a..", (4, 1))]), False)
 
+    def test_large_trees(self):
+        # Nine letters, and fourteen dots; then ten, and fifteen.
+        nine, wide = "a" * 9 + "." * 10, "bbbbbaaa" + "." * 14
+        for word in (nine, wide):
+            self.assertIs(is_chain(0, (2, 3), [], [(word, (1, 1))], [], [(word, (1, 1))]), True)
+        for word in ("a" * 10 + "." * 11, "bbbbbaaaa" + "." * 15):
+            self.assertRaises(NotSum, is_chain, 0, (2, 3), [], [(word, (1, 1))], [], [])
+
     def test_no_steps(self):
         for placing in (
             (-1, ".", 0, (".",) * 3), (1, ".", 0, (".",) * 3), (0, "", 0, (".",) * 3), (0, "..", 0, (".",) * 3), (0, ".", 1, (".",) * 3),
@@ -326,14 +342,7 @@ class Overlapping(unittest.TestCase):
             made = support.placed_by(book, placing)
             by = sign * support.inverse(book.p, made[tree])
             pairs.extend((word, by * w) for word, w in made.items())
-        told = support.collected(book.p, pairs)
-        for placing in chain:
-            made = support.placed_by(book, placing)
-            head = made and max(made, key=lambda word: support.order_key(book.kinds, word))
-            if made is None or head not in told:
-                return False
-            told = support.stepped(book, told, head, placing)
-        return told == {}
+        return model_end(book, support.collected(book.p, pairs), chain) == {}
 
     def test_overlaps_of_the_other_modules(self):
         told = {True: 0, False: 0}

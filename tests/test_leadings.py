@@ -93,7 +93,7 @@ class WhatLeadingsAre(unittest.TestCase):
         for p in support.WRONG_FIELDS:
             self.assertRaises(BadNumber, Leading, p, (), (), [])
             self.assertRaises(BadNumber, calm, p, ())
-        for kinds in support.WRONG_KINDS:
+        for kinds in support.WRONG_KINDS + [(10 ** 5000,), (2, -10 ** 5000)]:
             self.assertRaises(NotKinds, Leading, 0, kinds, (2,), [])
             self.assertRaises(NotKinds, Leading, 0, (2,), kinds, [])
             self.assertRaises(NotKinds, calm, 0, kinds)
@@ -427,6 +427,9 @@ class Gone(unittest.TestCase):
         self.assertEqual(len(support.words_with((3,), 4, 9)), 55)
         self.assertRaises(TooLarge, gone, twice, read_book("0 2"), 4, 9)
         self.assertEqual(len(gone(twice, read_book("0 2 ; 2 3 1 aa..."), 3, 7)), 12)
+        # 56 trees; no kinds have 57 to 75.
+        mixed = calm(0, (2, 2, 3))
+        self.assertEqual(gone(mixed, Book(0, (2, 2, 3), []), 3, 6), [])
         # An image of ten letters.
         mixed = Leading(0, (2, 3), (2,), [zero_sum(0, (2,), 2, 2), only("aa...")])
         self.assertEqual(len(support.words_with((2, 3), 5, 7)) > 60, True)

@@ -9,7 +9,7 @@ from graftworth.witnesses import is_told_world, obeys_told, parts_told
 from graftworth.worlds import is_world, obeys, sum_value, told_world, unit
 import support
 from test_worlds import (
-    BOOKS, EXAMPLE, ONE, WORLD, random_sum, random_vector, random_world, row, some_worlds, unit_rows, value_of_terms, with_rows,
+    BOOKS, EXAMPLE, ONE, WORLD, just, random_sum, random_vector, random_world, row, some_worlds, unit_rows, value_of_terms, with_rows,
     wrong_worlds,
 )
 
@@ -120,6 +120,8 @@ class Obeying(unittest.TestCase):
         self.assertRaises(TooLarge, obeys_told, 0, (2,), [[(deep, (1, 1)), (wide, (-1, 1))]], world)
         self.assertRaises(TooLarge, obeys_told, 0, (2,), RELATIONS, self.full(17))
         self.assertRaises(TooLarge, obeys_told, 0, (2,), [[("aaa....", (1, 1)), ("aa..a..", (-1, 1))], [(deep, (1, 1)), (wide, (-1, 1))]], world)
+        self.assertIs(obeys_told(0, (3,), [[("a...", (1, 1))]], just(4096)), False)
+        self.assertRaises(TooLarge, obeys_told, 0, (3,), [[("a...", (1, 1))]], just(4097))
         try:
             self.assertIs(obeys_told(0, (2,), [[("a..", (1, 1))], [(deep, (1, 1))]], world), False)
         except TooLarge:

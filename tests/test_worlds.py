@@ -136,6 +136,12 @@ def wrong_worlds():
         yield (0, kinds, 2, ((),) * len(kinds))
 
 
+def just(many):
+    """A world whose operation, with three entrances, has a table of so many rows."""
+    indexes = list(itertools.product(range(17), repeat=3))[:many]
+    return with_rows([row(some, (0, ONE)) for some in indexes], 0, (3,), 17)
+
+
 class WhatWorldsAre(unittest.TestCase):
     def test_right(self):
         for world in some_worlds():
@@ -317,6 +323,12 @@ class Tables(unittest.TestCase):
                             (self.full(9), "aa..a.."), (self.full(17, 3), "a...")):
             self.assertRaises(TooLarge, table, world, word)
         self.assertEqual(len(table(self.full(2), "a" * 9 + "." * 10)), 1024)
+        for many in (4096, 4097):
+            world = just(many)
+            if many == 4096:
+                self.assertEqual(table(world, "a..."), list(world[3][0]))
+            else:
+                self.assertRaises(TooLarge, table, world, "a...")
 
     def test_too_many_rows_of_a_part(self):
         # A product with the first unit vector at the first entrance is nothing, so the whole table is empty.
@@ -535,6 +547,10 @@ class ToldWorlds(unittest.TestCase):
         book = read_book(EXAMPLE)
         for text in ("3 2 2 3 1 aa...", "0 22 2 3 1 aa...", "0 3 1 3 1 a...", "0 22 0 6", "3 2 0 14"):
             self.assertRaises(BadNumber, told_value, book, read_sum(text))
+        # Ahead of what is too large.
+        large = read_book("0 222")
+        for text in ("3 222 4 5", "0 22 4 5", "3 222 3 4"):
+            self.assertRaises(BadNumber, told_value, large, read_sum(text))
 
     def test_arguments_stay(self):
         book, one = read_book(EXAMPLE), read_sum("0 2 2 3 1 aa...")
