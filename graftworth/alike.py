@@ -4,7 +4,7 @@ from graftworth.errors import BadNumber
 from graftworth.linear import clash, echelon_rows, leading_column, solution
 from graftworth.numbers import ZERO, is_number, minus, plus, times
 from graftworth.sums import Sum, numbers_along
-from graftworth.trees import check_few_trees, listed
+from graftworth.trees import listed
 
 ALIKE = "alike"
 APART = "apart"
@@ -19,8 +19,7 @@ def _check_sums(book, one, other):
 
 def _lost_numbers(book, size, width):
     """The trees of a size and width, ascending, and for each placing the list of their numbers in what is placed."""
-    # Ahead of making any list, so that a refusal takes little time.
-    check_few_trees(book.kinds, size, width)
+    # Ahead of making the trees, so that a refusal takes little time.
     check_few_placings(book, size, width)
     trees = listed(book.kinds, size, width)
     return trees, [numbers_along(placed(book, placing), trees) for placing in placings(book, size, width)]

@@ -22,7 +22,12 @@ class ToldBook:
         self.p = p
         self.kinds = kinds
         self.ones = [dict(terms) for terms in relations]
-        self.tops = [max(list(one), key=lambda tree: order_of(kinds, tree)) for one in self.ones]
+        self.tops = [_head_of(kinds, one) for one in self.ones]
+
+
+def _head_of(kinds, one):
+    """The greatest tree of a sum that is not 0."""
+    return max(list(one), key=lambda tree: order_of(kinds, tree))
 
 
 def _check_relation(p, kinds, terms):

@@ -4,7 +4,7 @@ from graftworth.errors import BadNumber, NotLeading, TooLarge
 from graftworth.grafting import top
 from graftworth.linear import kernel
 from graftworth.numbers import ONE, check_field
-from graftworth.sums import Sum, numbers_along, zero_sum
+from graftworth.sums import Sum, numbers_along
 from graftworth.trees import DOT, LETTERS, MOST_LETTERS, check_kinds, counted, listed
 
 MOST_STEP = 2
@@ -39,10 +39,10 @@ class Leading:
         size = one.size * self.step()
         if size > MOST_LETTERS:
             raise TooLarge("the image would have too many letters")
-        made = zero_sum(self.p, self.others, size, one.width)
+        terms = []
         for tree, x in one.terms():
-            made = made + self._image_of(tree).scaled(x)
-        return made
+            terms.extend(self._image_of(tree).scaled(x).terms())
+        return Sum(self.p, self.others, size, one.width, terms)
 
     def _image_of(self, tree):
         """The image of a tree."""

@@ -143,7 +143,7 @@ def number_of_rows(kinds, wanted, letters, dots):
 
 
 def orders_of_signs(kinds, wanted, letters, dots):
-    """How many texts of so many letters and dots, in whatever order, have as many signs as so many trees would have."""
+    """How many orders there are of the signs that so many trees, with so many letters and dots in all, may have."""
     # Each letter with two entrances makes one more dot, each one with three of them two more.
     threes = dots - wanted - letters
     twos = letters - threes
@@ -176,15 +176,10 @@ def rows_of_trees(kinds, wanted, letters, dots, known):
     return known[key]
 
 
-def check_few_trees(kinds, size, width):
-    """Raises BadNumber if no tree may have such a size or width, then TooLarge if there are too many trees to list."""
-    if counted(kinds, size, width) > MOST_LISTED:
-        raise TooLarge("there are too many trees of this size and width")
-
-
 def listed(kinds, size, width):
     """The list of all trees with a size and a width, ascending."""
-    check_few_trees(kinds, size, width)
+    if counted(kinds, size, width) > MOST_LISTED:
+        raise TooLarge("there are too many trees of this size and width")
     found = rows_of_trees(kinds, 1, size, width, {})
     return sorted(found, key=lambda tree: order_key(kinds, tree))
 

@@ -124,10 +124,11 @@ def _product(p, rows, vectors):
     """The product of vectors by an operation with a table."""
     made = {}
     for indexes, entries in rows:
-        x = ONE
-        for index, vector in zip(indexes, vectors):
-            x = times(p, x, vector.get(index, ZERO))
-        if x != ZERO:
+        chosen = [vector.get(index, ZERO) for index, vector in zip(indexes, vectors)]
+        if ZERO not in chosen:
+            x = ONE
+            for y in chosen:
+                x = times(p, x, y)
             _add_in(p, made, dict(entries), x)
     return made
 
